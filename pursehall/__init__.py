@@ -1,0 +1,1 @@
+"""Pursehall: costs shared over rows of deeds."""
