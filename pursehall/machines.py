@@ -1,18 +1,12 @@
 """Machines: their places and deeds, their rows of deeds, and two of them side by side."""
 
 from pursehall.errors import BadMachine, BadRow
+from pursehall.exact import is_between
 
 MOST_PLACES = 200
 MOST_KINDS = 8
 MOST_DEEDS = 600
 MOST_COST = 1000
-
-
-def is_between(thing, least, most):
-    # To Python True and False are ints, but here they are no whole numbers.
-    if isinstance(thing, bool) or not isinstance(thing, int):
-        return False
-    return least <= thing <= most
 
 
 def is_deed(machine, deed):

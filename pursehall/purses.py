@@ -1,7 +1,8 @@
 """Purses: whether prices pay for every deed, with the least purse or what breaks them."""
 
 from pursehall.errors import BadPrices
-from pursehall.machines import gone, is_between, look_machine, reached
+from pursehall.exact import is_between
+from pursehall.machines import gone, look_machine, reached
 from pursehall.rings import gain_of, most_gains, ring_onward, row_onward, way_to
 
 MOST_PRICE = 1000

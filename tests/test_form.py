@@ -21,6 +21,8 @@ WORDS = """type typing typing_extensions enum Enum IntEnum StrEnum Flag IntFlag 
 UNUSED = """register mro elements open input version_info with_traceback add_note attrgetter breakpoint
     builtins compile copyright credits delattr dir eval exec exit gc getattr globals hasattr help id
     importlib license locals methodcaller os quit setattr super type vars sys""".split()
+WALKED = "zip enumerate reversed range items keys values".split()
+WALKING = "list tuple dict sorted sum any all enumerate zip min max".split()
 STATEMENTS = (ast.Assign, ast.AugAssign, ast.If, ast.While, ast.For, ast.Return, ast.Break, ast.Continue,
               ast.Pass, ast.Raise, ast.Try, ast.Expr, ast.FunctionDef, ast.ClassDef, ast.ImportFrom)
 EXPRESSIONS = (ast.BinOp, ast.UnaryOp, ast.BoolOp, ast.Compare, ast.IfExp, ast.Call, ast.Attribute,
@@ -157,6 +159,42 @@ class Code(unittest.TestCase):
             self.assertEqual((given.vararg, given.kwarg, given.kwonlyargs, given.posonlyargs),
                              (None, None, [], []), where)
             self.assertEqual([arg for arg in given.args if arg.annotation], [], where)
+
+
+    def test_what_is_walked_at_once(self):
+        for path in FILES:
+            tree = parsed(path)
+            walked = [node.iter for node in ast.walk(tree) if isinstance(node, (ast.For, ast.comprehension))]
+            for node in ast.walk(tree):
+                if isinstance(node, ast.Call) and isinstance(node.func, ast.Name) and node.func.id in WALKING:
+                    walked += node.args
+            for node in ast.walk(tree):
+                if isinstance(node, ast.Call):
+                    name = getattr(node.func, "id", getattr(node.func, "attr", None))
+                    if name in WALKED:
+                        self.assertTrue(any(node is other for other in walked), f"{path.name}:{node.lineno}")
+
+    def test_lambdas_exponents_and_signs_in_texts(self):
+        lambdas = [(where, ast.unparse(node.args)) for where, node in nodes((ast.Lambda,))]
+        self.assertEqual(len(lambdas), len(set(lambdas)))
+        for where, node in nodes((ast.BinOp,)):
+            if isinstance(node.op, ast.Pow):
+                self.assertIn(getattr(node.right, "value", None), range(65), where)
+        for where, node in nodes((ast.Constant,)):
+            if isinstance(node.value, str):
+                self.assertNotIn(chr(37), node.value, where)
+
+    def test_sets_lists_of_the_top_and_truths(self):
+        for where, node in nodes((ast.Call,)):
+            self.assertNotIn(getattr(node.func, "id", None), ("set", "frozenset"), where)
+        for path in FILES:
+            for node in parsed(path).body:
+                if isinstance(node, ast.Assign):
+                    self.assertIsInstance(node.value, (ast.Constant, ast.Tuple), f"{path.name}:{node.lineno}")
+        for where, node in nodes((ast.Compare,)):
+            for op, right in zip(node.ops, node.comparators):
+                if isinstance(op, (ast.Is, ast.IsNot)):
+                    self.assertIn(right.value, (None, True, False), where)
 
 
 class Names(unittest.TestCase):
